@@ -33,7 +33,7 @@ func Inflate(b []byte, most int) (out []byte, used int, err error) {
 	return s.out, s.next, nil
 }
 
-// reason tells why a stream was given up.
+// reason tells why a stream was given up. No call may panic, so whatever is not told by its number counts as a broken stream.
 func reason(r any) error {
 	if e, ok := r.(api.Errno); ok {
 		return e
