@@ -2,15 +2,15 @@ package pack
 
 import (
 	"gitlike/api"
-	"gitlike/deflate"
+	"gitlike/packentry"
 )
 
 // entry is one of a pack: what its head says, and what is found out beside.
 type entry struct {
-	head
+	packentry.Head
 	begin, end int    // where in the pack it stands
 	data       []byte // what came out of its stream
-	base       int    // of byDistance: the entry that it stands on
+	base       int    // of packentry.ByDistance: the entry that it stands on
 	known      bool   // it is an object, which is this one:
 	object     api.Object
 	id         api.ID
@@ -50,8 +50,8 @@ func (c *contents) readEntries(body []byte, count int) error {
 		if err != nil {
 			return err
 		}
-		if e.kind == byDistance {
-			base, there := c.begins[at-e.distance]
+		if e.Kind == packentry.ByDistance {
+			base, there := c.begins[at-e.Distance]
 			if !there {
 				return api.ErrPack
 			}
@@ -69,13 +69,9 @@ func (c *contents) readEntries(body []byte, count int) error {
 
 // readEntry reads the entry that begins at a place.
 func readEntry(body []byte, at int) (entry, error) {
-	h, stream, err := readHead(body[at:])
+	h, data, used, err := packentry.Read(body[at:])
 	if err != nil {
 		return entry{}, err
 	}
-	data, used, err := deflate.Inflate(stream, h.size)
-	if err != nil || len(data) < h.size {
-		return entry{}, api.ErrPack
-	}
-	return entry{head: h, begin: at, end: len(body) - len(stream) + used, data: data}, nil
+	return entry{Head: h, begin: at, end: at + used, data: data}, nil
 }

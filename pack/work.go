@@ -6,11 +6,12 @@ import (
 	"gitlike/api"
 	"gitlike/delta"
 	"gitlike/object"
+	"gitlike/packentry"
 )
 
 // addBases takes the bases that count. Where no entry asks for an id, they are not needed, and the time for their ids is saved.
 func (c *contents) addBases(bases []api.Object) {
-	if !slices.ContainsFunc(c.entries, func(e entry) bool { return e.kind == byID }) {
+	if !slices.ContainsFunc(c.entries, func(e entry) bool { return e.Kind == packentry.ByID }) {
 		return
 	}
 	for _, o := range bases {
@@ -25,11 +26,11 @@ func (c *contents) workOut() {
 	var waiting []int
 	for i := range c.entries {
 		e := &c.entries[i]
-		if e.isDelta() {
+		if e.IsDelta() {
 			waiting = append(waiting, i)
 			continue
 		}
-		e.object = api.Object{Kind: e.kind, Data: e.data}
+		e.object = api.Object{Kind: e.Kind, Data: e.data}
 		c.know(i)
 	}
 	for range api.MaxChain {
@@ -68,14 +69,14 @@ func (c *contents) know(i int) {
 
 // baseOf tells which object a delta stands on, if that is known.
 func (c *contents) baseOf(e *entry) (base api.Object, there bool) {
-	if e.kind == byDistance {
+	if e.Kind == packentry.ByDistance {
 		on := &c.entries[e.base]
 		return on.object, on.known
 	}
-	if o, there := c.outside[e.baseID]; there {
+	if o, there := c.outside[e.BaseID]; there {
 		return o, true
 	}
-	if i, there := c.inside[e.baseID]; there {
+	if i, there := c.inside[e.BaseID]; there {
 		return c.entries[i].object, true
 	}
 	return api.Object{}, false

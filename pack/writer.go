@@ -2,9 +2,9 @@ package pack
 
 import (
 	"gitlike/api"
-	"gitlike/deflate"
 	"gitlike/delta"
 	"gitlike/object"
+	"gitlike/packentry"
 )
 
 // base is an object that a delta may stand on.
@@ -57,24 +57,18 @@ func canWrite(l []api.Object) error {
 // Why 90 bytes are enough for an object of at most 20000 bytes that differs from another one of its length in one byte: the delta has 6 bytes of sizes, at most three copies of 5 bytes (up to that byte, from it on, and behind what that one takes), and bytes of its own where a copy does not pay: less than 40. Its head has at most 22 bytes, and its stream 11 more, where it is stored.
 func (w *writer) put(o api.Object) {
 	at := len(w.out)
-	best, depth := makeEntry(head{kind: o.Kind}, o.Data), 0
+	best, depth := packentry.Make(packentry.Head{Kind: o.Kind}, o.Data), 0
 	for _, l := range [][]base{w.has, w.written} {
 		on := nearest(l, o, at)
 		if on == nil {
 			continue
 		}
-		if e := makeEntry(on.deltaHead(at), delta.Make(on.Data, o.Data)); len(e) < len(best) {
+		if e := packentry.Make(on.deltaHead(at), delta.Make(on.Data, o.Data)); len(e) < len(best) {
 			best, depth = e, on.depth+1
 		}
 	}
 	w.out = append(w.out, best...)
 	w.written = append(w.written, base{o, at, depth})
-}
-
-// makeEntry makes an entry of bytes; how many they are is set in its head.
-func makeEntry(h head, data []byte) []byte {
-	h.size = len(data)
-	return append(h.write(), deflate.Deflate(data)...)
 }
 
 // nearest finds among bases that may bear an object's delta the one whose length is nearest to the object's, since bytes that differ little mostly differ little in their length, and looking at more would take much time; of those that are as near the first one.
@@ -94,7 +88,7 @@ func (b *base) mayBear(o api.Object, at int) bool {
 	if b.Kind != o.Kind || len(b.Data) > api.MaxBlob || b.depth == api.MaxChain {
 		return false
 	}
-	return b.begin == elsewhere || at-b.begin <= mostDistance
+	return b.begin == elsewhere || at-b.begin <= packentry.MostDistance
 }
 
 // apart is by how many bytes a base's length and an object's differ.
@@ -104,10 +98,10 @@ func (b *base) apart(o api.Object) int {
 }
 
 // deltaHead is the head of a delta on a base, if its entry begins at a place.
-func (b *base) deltaHead(at int) head {
+func (b *base) deltaHead(at int) packentry.Head {
 	if b.begin != elsewhere {
-		return head{kind: byDistance, distance: at - b.begin}
+		return packentry.Head{Kind: packentry.ByDistance, Distance: at - b.begin}
 	}
 	id, _ := object.ID(b.Object) // it has one: mayBear has looked at it
-	return head{kind: byID, baseID: id}
+	return packentry.Head{Kind: packentry.ByID, BaseID: id}
 }

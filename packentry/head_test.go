@@ -1,4 +1,4 @@
-package pack
+package packentry
 
 import (
 	"bytes"
@@ -18,15 +18,15 @@ func TestDistanceBytes(t *testing.T) {
 		16512:            {0x80, 0x80, 0},
 		2113663:          {0xff, 0xff, 0x7f},
 		2113664:          {0x80, 0x80, 0x80, 0},
-		mostDistance:     {0xff, 0xff, 0xff, 0x7f},
-		mostDistance + 1: {0x80, 0x80, 0x80, 0x80, 0},
+		MostDistance:     {0xff, 0xff, 0xff, 0x7f},
+		MostDistance + 1: {0x80, 0x80, 0x80, 0x80, 0},
 	} {
 		b := appendDistance(nil, n, 0)
 		if !bytes.Equal(b, want) {
 			t.Errorf("%d: % x", n, b)
 		}
 		got, rest, err := readDistance(append(b, 9, 9))
-		if n > mostDistance {
+		if n > MostDistance {
 			if api.Tell(err) != api.ErrPack || got != 0 {
 				t.Errorf("5 bytes: %d, %v", got, err)
 			}
@@ -63,18 +63,5 @@ func TestSizeBytes(t *testing.T) {
 		} else if kind != api.Blob || got != size || len(rest) != 2 || err != nil {
 			t.Errorf("%d: %v, %d, % x, %v", size, kind, got, rest, err)
 		}
-	}
-}
-
-// TestFarBases: no delta stands on an entry that a distance cannot lead to.
-func TestFarBases(t *testing.T) {
-	o := api.Object{Kind: api.Blob}
-	b := base{Object: o, begin: 12}
-	if !b.mayBear(o, 12+mostDistance) || b.mayBear(o, 13+mostDistance) {
-		t.Error("the greatest distance")
-	}
-	b.begin = elsewhere
-	if !b.mayBear(o, 13+mostDistance) {
-		t.Error("a base that is not in the pack")
 	}
 }

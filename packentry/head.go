@@ -1,11 +1,11 @@
-package pack
+package packentry
 
 import "gitlike/api"
 
 // Kinds of entries beside those of objects: deltas, by how their bases are told.
 const (
-	byDistance api.Kind = 6
-	byID       api.Kind = 7
+	ByDistance api.Kind = 6
+	ByID       api.Kind = 7
 )
 
 const (
@@ -18,53 +18,55 @@ const (
 	mostDelta     = 200000 // so many bytes can a delta have
 )
 
-// mostDistance is the greatest distance: each length of bytes begins where the one ahead ends.
-const mostDistance = 1<<moreBits + 1<<(2*moreBits) + 1<<(3*moreBits) + 1<<(4*moreBits) - 1
+// MostDistance is the greatest distance: each length of bytes begins where the one ahead ends.
+const MostDistance = 1<<moreBits + 1<<(2*moreBits) + 1<<(3*moreBits) + 1<<(4*moreBits) - 1
 
-// head is what an entry says of itself, ahead of its zlib stream.
-type head struct {
-	kind     api.Kind
-	size     int    // so many bytes come out of the stream
-	distance int    // of byDistance: so far ahead its base begins
-	baseID   api.ID // of byID: its base's id
+// Head is what an entry says of itself, ahead of its zlib stream.
+type Head struct {
+	Kind     api.Kind
+	Size     int    // so many bytes come out of the stream
+	Distance int    // of ByDistance: so far ahead its base begins
+	BaseID   api.ID // of ByID: its base's id
 }
 
-func (h head) isDelta() bool { return h.kind == byDistance || h.kind == byID }
+// IsDelta tells whether the entry is an object by what it has of another one.
+func (h Head) IsDelta() bool { return h.Kind == ByDistance || h.Kind == ByID }
 
 // fits tells whether there is such a kind, and may be so many bytes of it.
-func (h head) fits() bool {
-	if h.isDelta() {
-		return h.size <= mostDelta
+func (h Head) fits() bool {
+	if h.IsDelta() {
+		return h.Size <= mostDelta
 	}
-	return h.kind >= api.Commit && h.kind <= api.Tag && h.size <= api.MaxBlob
+	return h.Kind >= api.Commit && h.Kind <= api.Tag && h.Size <= api.MaxBlob
 }
 
 // write writes a head.
-func (h head) write() []byte {
-	out := appendKind(nil, h.kind, h.size)
-	switch h.kind {
-	case byDistance:
-		out = appendDistance(out, h.distance, 0)
-	case byID:
-		out = append(out, h.baseID[:]...)
+func (h Head) write() []byte {
+	out := appendKind(nil, h.Kind, h.Size)
+	switch h.Kind {
+	case ByDistance:
+		out = appendDistance(out, h.Distance, 0)
+	case ByID:
+		out = append(out, h.BaseID[:]...)
 	}
 	return out
 }
 
 // readHead reads a head, and tells what stands behind it.
-func readHead(b []byte) (h head, rest []byte, err error) {
-	h.kind, h.size, rest, err = readKind(b)
+func readHead(b []byte) (h Head, rest []byte, err error) {
+	h.Kind, h.Size, rest, err = readKind(b)
 	if err != nil || !h.fits() {
-		return head{}, nil, api.ErrPack
+		return Head{}, nil, api.ErrPack
 	}
-	switch h.kind {
-	case byDistance:
-		h.distance, rest, err = readDistance(rest)
-	case byID:
-		if len(rest) < idBytes {
-			return head{}, nil, api.ErrPack
+	switch h.Kind {
+	case ByDistance:
+		h.Distance, rest, err = readDistance(rest)
+	case ByID:
+		n := copy(h.BaseID[:], rest)
+		if n < len(h.BaseID) {
+			return Head{}, nil, api.ErrPack
 		}
-		h.baseID, rest = readID(rest), rest[idBytes:]
+		rest = rest[n:]
 	}
 	return h, rest, err
 }

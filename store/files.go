@@ -1,0 +1,121 @@
+package store
+
+import (
+	"bytes"
+	"errors"
+	"math"
+	"slices"
+
+	"gitlike/api"
+)
+
+// errTaken: a file of other bytes has a name that a pack, or its index, needs.
+var errTaken = errors.New("store: a pack's name is taken")
+
+// file is one that is to be on the disk.
+type file struct {
+	name  string
+	bytes []byte
+}
+
+// readFile reads a whole file.
+func (s *Store) readFile(name string) ([]byte, error) { return s.disk.ReadAt(name, 0, math.MaxInt) }
+
+// lacking tells which of the files are not there. Those that are may not be safe: whoever wrote them may have failed.
+func (s *Store) lacking(files ...file) (l []file, err error) {
+	for _, f := range files {
+		b, err := s.readFile(f.name)
+		switch {
+		case errors.Is(err, api.ErrFile):
+			l = append(l, f)
+		case err != nil:
+			return nil, err
+		case !bytes.Equal(b, f.bytes):
+			return nil, errTaken
+		default:
+			s.unsure[f.name] = struct{}{}
+		}
+	}
+	return l, nil
+}
+
+// lay writes files, whatever has their names. All of them are whole and safe before the first one gets its name: so a name of a store never stands for half a file, and what finds no room leaves nothing behind.
+func (s *Store) lay(files ...file) error {
+	err := s.layAll(files)
+	if err != nil {
+		for i := range files {
+			_ = s.disk.Remove(spareName(i)) // if this fails too, the next one that needs the name removes it
+		}
+	}
+	return err
+}
+
+func (s *Store) layAll(files []file) error {
+	for i, f := range files {
+		if err := s.write(spareName(i), f.bytes); err != nil {
+			return err
+		}
+	}
+	for i, f := range files {
+		if err := s.disk.Rename(spareName(i), f.name); err != nil {
+			return err
+		}
+		s.unsure[f.name] = struct{}{}
+	}
+	return nil
+}
+
+// write writes a new file, and makes its bytes safe. One that an earlier call left behind when it failed is removed.
+func (s *Store) write(name string, b []byte) error {
+	err := s.create(name)
+	if errors.Is(err, api.ErrFile) {
+		if err = s.disk.Remove(name); err == nil {
+			err = s.create(name)
+		}
+	}
+	if err != nil {
+		return err
+	}
+	if err := s.disk.Append(name, b); err != nil {
+		return err
+	}
+	return s.disk.Sync(name)
+}
+
+// create makes an empty file. A Disk that NewDisk has not made panics there: it has no place for names.
+func (s *Store) create(name string) (err error) {
+	defer func() {
+		if recover() != nil {
+			err = &api.FileError{Name: name, Err: api.ErrDisk}
+		}
+	}()
+	return s.disk.Create(name)
+}
+
+// remove removes a file.
+func (s *Store) remove(name string) error {
+	if err := s.disk.Remove(name); err != nil {
+		return err
+	}
+	delete(s.unsure, name)
+	return nil
+}
+
+// settle makes safe whatever may not be so. If it fails, the next call that adds something does it.
+func (s *Store) settle() error {
+	var names []string
+	for name := range s.unsure {
+		names = append(names, name)
+	}
+	slices.Sort(names)
+	for _, name := range names {
+		if err := s.disk.Sync(name); err != nil && !errors.Is(err, api.ErrFile) {
+			return err
+		}
+	}
+	if err := s.disk.SyncDir(); err != nil {
+		return err
+	}
+	clear(s.unsure)
+	return nil
+}
