@@ -5,6 +5,7 @@ import (
 
 	"gitlike/api"
 	"gitlike/digest"
+	"gitlike/person"
 )
 
 // WriteCommit writes a commit.
@@ -17,8 +18,8 @@ func WriteCommit(c api.CommitInfo) ([]byte, error) {
 		lines = append(lines, line("parent", digest.Hex(p)))
 	}
 	lines = append(lines,
-		line("author", personText(c.Author)),
-		line("committer", personText(c.Committer)))
+		line("author", person.Write(c.Author)),
+		line("committer", person.Write(c.Committer)))
 	return letter(c.Message, lines...), nil
 }
 
@@ -29,7 +30,7 @@ func ReadCommit(b []byte) (api.CommitInfo, error) {
 
 func isCommit(c api.CommitInfo) bool {
 	return len(c.Parents) <= api.MaxParents && differ(c.Parents) &&
-		isPerson(c.Author) && isPerson(c.Committer) && isMessage(c.Message)
+		person.CanWrite(c.Author) && person.CanWrite(c.Committer) && isMessage(c.Message)
 }
 
 func commitOf(text string) api.CommitInfo {
@@ -38,8 +39,8 @@ func commitOf(text string) api.CommitInfo {
 	for r.has("parent") {
 		c.Parents = append(c.Parents, r.id("parent"))
 	}
-	c.Author = personOf(r.field("author"))
-	c.Committer = personOf(r.field("committer"))
+	c.Author = person.Read(r.field("author"))
+	c.Committer = person.Read(r.field("committer"))
 	r.line()
 	c.Message = r.rest
 	return c

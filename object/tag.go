@@ -5,6 +5,7 @@ import (
 
 	"gitlike/api"
 	"gitlike/digest"
+	"gitlike/person"
 )
 
 const tagNameSigns = "abcdefghijklmnopqrstuvwxyzABCDEFGHIJKLMNOPQRSTUVWXYZ0123456789._-/"
@@ -18,7 +19,7 @@ func WriteTag(t api.TagInfo) ([]byte, error) {
 		line("object", digest.Hex(t.Target)),
 		line("type", kindName(t.Kind)),
 		line("tag", t.Name),
-		line("tagger", personText(t.Tagger))), nil
+		line("tagger", person.Write(t.Tagger))), nil
 }
 
 // ReadTag reads one.
@@ -27,7 +28,7 @@ func ReadTag(b []byte) (api.TagInfo, error) {
 }
 
 func isTag(t api.TagInfo) bool {
-	return kindName(t.Kind) != "" && isTagName(t.Name) && isPerson(t.Tagger) && isMessage(t.Message)
+	return kindName(t.Kind) != "" && isTagName(t.Name) && person.CanWrite(t.Tagger) && isMessage(t.Message)
 }
 
 func isTagName(s string) bool {
@@ -42,7 +43,7 @@ func tagOf(text string) api.TagInfo {
 	t := api.TagInfo{Target: r.id("object")}
 	t.Kind = kindOf(r.field("type"))
 	t.Name = r.field("tag")
-	t.Tagger = personOf(r.field("tagger"))
+	t.Tagger = person.Read(r.field("tagger"))
 	r.line()
 	t.Message = r.rest
 	return t

@@ -3,10 +3,10 @@ package store
 import (
 	"bytes"
 	"errors"
-	"math"
 	"slices"
 
 	"gitlike/api"
+	"gitlike/wholefile"
 )
 
 // errTaken: a file of other bytes has a name that a pack, or its index, needs.
@@ -19,7 +19,7 @@ type file struct {
 }
 
 // readFile reads a whole file.
-func (s *Store) readFile(name string) ([]byte, error) { return s.disk.ReadAt(name, 0, math.MaxInt) }
+func (s *Store) readFile(name string) ([]byte, error) { return wholefile.Read(s.disk, name) }
 
 // lacking tells which of the files are not there. Those that are may not be safe: whoever wrote them may have failed.
 func (s *Store) lacking(files ...file) (l []file, err error) {
@@ -52,7 +52,7 @@ func (s *Store) lay(files ...file) error {
 
 func (s *Store) layAll(files []file) error {
 	for i, f := range files {
-		if err := s.write(spareName(i), f.bytes); err != nil {
+		if err := wholefile.Write(s.disk, spareName(i), f.bytes); err != nil {
 			return err
 		}
 	}
@@ -63,33 +63,6 @@ func (s *Store) layAll(files []file) error {
 		s.unsure[f.name] = struct{}{}
 	}
 	return nil
-}
-
-// write writes a new file, and makes its bytes safe. One that an earlier call left behind when it failed is removed.
-func (s *Store) write(name string, b []byte) error {
-	err := s.create(name)
-	if errors.Is(err, api.ErrFile) {
-		if err = s.disk.Remove(name); err == nil {
-			err = s.create(name)
-		}
-	}
-	if err != nil {
-		return err
-	}
-	if err := s.disk.Append(name, b); err != nil {
-		return err
-	}
-	return s.disk.Sync(name)
-}
-
-// create makes an empty file. A Disk that NewDisk has not made panics there: it has no place for names.
-func (s *Store) create(name string) (err error) {
-	defer func() {
-		if recover() != nil {
-			err = &api.FileError{Name: name, Err: api.ErrDisk}
-		}
-	}()
-	return s.disk.Create(name)
 }
 
 // remove removes a file.

@@ -1,4 +1,5 @@
-package object
+// Package person: persons as commits, tags and logs write them: see 3.3.
+package person
 
 import (
 	"strconv"
@@ -13,24 +14,24 @@ const (
 	hourMinutes = 60
 )
 
-// isPerson tells whether a person can be written.
-func isPerson(p api.Person) bool {
-	return isPersonText(p.Name) && isPersonText(p.Mail) &&
+// CanWrite tells whether a person can be written.
+func CanWrite(p api.Person) bool {
+	return isText(p.Name) && isText(p.Mail) &&
 		p.Time >= 0 && p.Time <= maxTime &&
 		p.Zone >= -maxZone && p.Zone <= maxZone
 }
 
-func isPersonText(s string) bool {
+func isText(s string) bool {
 	return len(s) <= api.MaxPerson && !strings.ContainsAny(s, "<>\n\x00") && strings.Trim(s, " ") == s
 }
 
-// personText writes a person.
-func personText(p api.Person) string {
-	return words(p.Name, "<"+p.Mail+">", strconv.FormatInt(p.Time, 10), zoneText(p.Zone))
+// Write writes a person that can be written.
+func Write(p api.Person) string {
+	return p.Name + " <" + p.Mail + "> " + strconv.FormatInt(p.Time, 10) + " " + zoneText(p.Zone)
 }
 
-// personOf reads one.
-func personOf(text string) api.Person {
+// Read reads what Write has written. Of other texts it reads anything: whoever must know writes again what was read, and holds both against each other.
+func Read(text string) api.Person {
 	name, rest, _ := strings.Cut(text, " <")
 	mail, rest, _ := strings.Cut(rest, "> ")
 	seconds, zone, _ := strings.Cut(rest, " ")
