@@ -6,9 +6,8 @@ import (
 	"strings"
 
 	"gitlike/api"
+	"gitlike/entryname"
 )
-
-const maxEntryName = 50
 
 // WriteTree writes a tree.
 func WriteTree(l []api.TreeEntry) ([]byte, error) {
@@ -49,7 +48,7 @@ func isTree(l []api.TreeEntry) bool {
 	}
 	var names []string
 	for _, e := range l {
-		if !isMode(e.Mode) || !isEntryName(e.Name) {
+		if !isMode(e.Mode) || !entryname.Is(e.Name) {
 			return false
 		}
 		names = append(names, e.Name)
@@ -74,14 +73,6 @@ func modeOf(digits string) api.Mode {
 		return 0
 	}
 	return api.Mode(m)
-}
-
-func isEntryName(s string) bool {
-	switch s {
-	case "", ".", "..", ".git":
-		return false
-	}
-	return len(s) <= maxEntryName && !strings.ContainsAny(s, "/\x00")
 }
 
 // byOrder compares two entries by their places in a tree.
