@@ -6,6 +6,7 @@ import (
 	"slices"
 
 	"gitlike/api"
+	"gitlike/idorder"
 )
 
 // idxHead is what an index begins with: its name, and the number 2.
@@ -90,7 +91,7 @@ func Find(b []byte, id api.ID) (int, error) {
 	if err != nil {
 		return 0, err
 	}
-	i, there := slices.BinarySearchFunc(l, id, func(p api.Place, id api.ID) int { return compareIDs(p.ID, id) })
+	i, there := slices.BinarySearchFunc(l, id, func(p api.Place, id api.ID) int { return idorder.Compare(p.ID, id) })
 	if !there {
 		return 0, api.ErrMissing
 	}

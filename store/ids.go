@@ -1,11 +1,10 @@
 package store
 
 import (
-	"bytes"
 	"maps"
-	"slices"
 
 	"gitlike/api"
+	"gitlike/idorder"
 	"gitlike/object"
 )
 
@@ -28,12 +27,7 @@ func (s *Store) packsWith(id api.ID) []api.ID {
 			with[sum] = struct{}{}
 		}
 	}
-	return sorted(with)
-}
-
-// sorted is a set of ids by their bytes.
-func sorted(set map[api.ID]struct{}) []api.ID {
-	return slices.SortedFunc(maps.Keys(set), func(x, y api.ID) int { return bytes.Compare(x[:], y[:]) })
+	return idorder.Sorted(with)
 }
 
 // idsOf is the ids of objects, in their order.

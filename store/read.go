@@ -8,6 +8,7 @@ import (
 	"gitlike/deflate"
 	"gitlike/delta"
 	"gitlike/digest"
+	"gitlike/idorder"
 	"gitlike/object"
 	"gitlike/pack"
 	"gitlike/packentry"
@@ -122,7 +123,7 @@ func (s *Store) named(b []byte) ([]api.Object, error) {
 		}
 	}
 	var l []api.Object
-	for _, id := range sorted(found) {
+	for _, id := range idorder.Sorted(found) {
 		o, err := s.read(id)
 		if errors.Is(err, api.ErrDisk) {
 			return nil, err
@@ -147,7 +148,7 @@ func (s *Store) chosen(keep []api.ID) ([]api.Object, error) {
 		return nil, api.ErrPack
 	}
 	var l []api.Object
-	for _, id := range sorted(set) {
+	for _, id := range idorder.Sorted(set) {
 		o, err := s.read(id)
 		if err != nil {
 			return nil, err
