@@ -6,6 +6,7 @@ import (
 
 	"gitlike/api"
 	"gitlike/idorder"
+	"gitlike/idwalk"
 )
 
 // history is commits that are a graph.
@@ -29,7 +30,7 @@ func open(l []api.Node, asked ...api.ID) (*history, error) {
 		return nil, api.ErrGraph
 	}
 	// A walk from everywhere meets each id that is not there, be it a parent's or one that is asked for.
-	all, err := walk(h.parents, ids...)
+	all, err := idwalk.Through(h.parents, ids...)
 	if err != nil {
 		return nil, err
 	}
@@ -64,7 +65,7 @@ func (h *history) among(some set) []api.Node {
 
 // reached is what these reach. They are there, as open has seen, and so are all parents: there is no error.
 func (h *history) reached(from ...api.ID) set {
-	met, _ := walk(h.parents, from...)
+	met, _ := idwalk.Through(h.parents, from...)
 	return met
 }
 

@@ -1,9 +1,11 @@
 package refs_test
 
 import (
+	"slices"
 	"testing"
 
 	"gitlike/api"
+	"gitlike/refs"
 )
 
 // badNames are none.
@@ -131,4 +133,28 @@ func TestList(t *testing.T) {
 	lists(t, r, "eads")
 	lists(t, r, "\xff")
 	bothTell(t, "listed", r, d)
+}
+
+// TestAllNames: all refs, those too that lead to nothing, sorted; the answer is new.
+func TestAllNames(t *testing.T) {
+	d := roomy()
+	r := open(t, d)
+	if l := r.Names(); len(l) > 0 {
+		t.Errorf("%q", l)
+	}
+	link(t, r, "HEAD", "refs/heads/main")
+	link(t, r, "refs/heads/b", "refs/heads/a/c")
+	update(t, r, "", from("refs/tags/v", nought, id(1)), from("refs/heads/b", nought, id(2)), from("refs/x", nought, id(3)))
+	update(t, r, "", from("refs/heads/a/c", id(2), nought), from("refs/x", id(3), nought))
+	want := []string{"HEAD", "refs/heads/b", "refs/tags/v"}
+	for _, r := range []*refs.Refs{r, open(t, d)} {
+		l := r.Names()
+		if !slices.Equal(l, want) {
+			t.Errorf("%q", l)
+		}
+		l[0] = "scribble"
+		if l := r.Names(); !slices.Equal(l, want) {
+			t.Errorf("%q", l)
+		}
+	}
 }

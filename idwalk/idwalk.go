@@ -1,4 +1,5 @@
-package graph
+// Package idwalk: a walk through ids and all that they name.
+package idwalk
 
 import (
 	"slices"
@@ -6,16 +7,16 @@ import (
 	"gitlike/api"
 )
 
-// walk goes through ids and what they name, and so on: an id, then what it names, one behind the other, each with all below it, none twice. It tells which it has met, or the first error.
+// Through goes through ids and what they name, and so on: an id, then what it names, one behind the other, each with all below it, none twice. It tells which it has met, or the first error.
 //
 // What is still to come stands in a list, the next one last: however long a row of names is, no calls stand one in another.
-func walk(names func(id api.ID) ([]api.ID, error), from ...api.ID) (set, error) {
-	met := set{}
+func Through(names func(id api.ID) ([]api.ID, error), from ...api.ID) (map[api.ID]struct{}, error) {
+	met := map[api.ID]struct{}{}
 	waiting := backwards(from...)
 	for len(waiting) > 0 {
 		id := waiting[len(waiting)-1]
 		waiting = waiting[:len(waiting)-1]
-		if met.has(id) {
+		if _, again := met[id]; again {
 			continue
 		}
 		met[id] = struct{}{}
