@@ -24,7 +24,7 @@ func (r *Repo) Commit(files []api.File, who api.Person, message string) (api.ID,
 			made.Parents = []api.ID{parent.id}
 		}
 		trees := plant(entries, &made)
-		refuse(was != api.ID{} && parent.Tree == made.Tree, api.ErrNothing)
+		refuse(was != (api.ID{}) && parent.Tree == made.Tree, api.ErrNothing)
 		c.put(blobs...)
 		c.put(trees...)
 		return c.moveHead(was, c.putCommit(made), who, "commit: "+firstLine(message))

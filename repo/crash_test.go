@@ -176,6 +176,55 @@ func (a act) withoutCrash(t *testing.T) {
 	}
 }
 
+// twice lets an operation fail, and then one of the next call, which is the same one again.
+func (a act) twice(t *testing.T) {
+	before, behind, _ := a.states(t)
+	for after := 0; ; after += 3 {
+		d := a.lay.Copy()
+		r, ended := a.broken(t, d, after, 1+after%2)
+		if ended {
+			break
+		}
+		was := true
+		if after%2 == 0 { // else the next call is the first thing that it is asked
+			was = a.is(t, "the repository itself", r, before, behind, false)
+		}
+		for _, more := range []int{0, 1, 2, 5, 20, 60} {
+			d.Fail(more, 1)
+			err := a.do(r)
+			if !stillFails(d, more) && api.Tell(err) != api.ErrDisk {
+				t.Fatalf("%s again, behind %d and %d operations: %v", a.name, after, more, err)
+			}
+			d.Fail(0, 0)
+			if api.Tell(err) != api.ErrDisk {
+				break
+			}
+			if now := a.is(t, "the next time", r, before, behind, false); now && !was {
+				t.Fatalf("%s: what was done is not done any more", a.name)
+			}
+			tellsTheSame(t, a.name, r, d)
+		}
+	}
+}
+
+// toldIsSafe lets operations fail, and then a crash comes that takes all that may be taken: what was told of refs in between is so.
+func (a act) toldIsSafe(t *testing.T) {
+	for _, times := range []int{1, 2, forever} {
+		for after := 0; ; after++ {
+			d := a.lay.Copy()
+			r, ended := a.broken(t, d, after, times)
+			was := refsTold(t, r)
+			d.Crash(0, 0)
+			if now := refsTold(t, open(t, d)); now != was {
+				t.Fatalf("%s, behind %d operations: it told\n%s, and behind a crash\n%s", a.name, after, was, now)
+			}
+			if ended {
+				break
+			}
+		}
+	}
+}
+
 // withCrash lets all operations fail from some moment on, and then a crash comes, that leaves more or less.
 func (a act) withCrash(t *testing.T) {
 	before, behind, _ := a.states(t)
@@ -206,6 +255,8 @@ func TestBroken(t *testing.T) {
 		t.Run(a.name, func(t *testing.T) {
 			t.Parallel()
 			a.withoutCrash(t)
+			a.twice(t)
+			a.toldIsSafe(t)
 			a.withCrash(t)
 		})
 	}
