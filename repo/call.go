@@ -5,7 +5,8 @@ import "gitlike/api"
 // call is one call of a repository. At the first error it gives up by a panic, which answer recovers.
 type call struct {
 	*Repo
-	whole map[api.ID]struct{} // objects of which it has seen that all that they reach is there
+	linked map[api.ID][]api.ID // what objects name, of those that it has read for that
+	whole  map[api.ID]struct{} // objects of which it has seen that all that they reach is there
 }
 
 // failure is what the panic of a call has that gives up.
@@ -23,7 +24,7 @@ func answer[T any](r *Repo, do func(c *call) T) (got T, err error) {
 			r.mistrust(err)
 		}
 	}()
-	return do(&call{r, map[api.ID]struct{}{}}), nil
+	return do(&call{r, map[api.ID][]api.ID{}, map[api.ID]struct{}{}}), nil
 }
 
 // act makes a call that answers nothing but its error.

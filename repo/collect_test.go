@@ -204,3 +204,21 @@ func TestCollectMany(t *testing.T) {
 	}
 	is(t, "Check", r.Check(), api.OK)
 }
+
+// TestCollectSpoilt: 13.8, what only a log reaches is spoilt behind Open: nothing is dropped for that.
+func TestCollectSpoilt(t *testing.T) {
+	d, r := create(t)
+	commit(t, r, "f", "1")
+	branch(t, r, "x", "HEAD")
+	toSwitch(t, r, "x")
+	commit(t, r, "f", "spoilt", "g", "right")
+	toSwitch(t, r, "main")
+	done(t, "Drop", r.Drop("x"))
+	was := d.List()
+	name := hex(idOf(t, blob("spoilt")))
+	d.Flip("objects/"+name[:2]+"/"+name[2:], 77)
+	is(t, "Collect", r.Collect(), api.ErrCorrupt)
+	if now := d.List(); !slices.Equal(now, was) {
+		t.Errorf("%q, and now %q", was, now)
+	}
+}

@@ -4,6 +4,7 @@ import (
 	"bytes"
 	"math"
 	"slices"
+	"strings"
 	"testing"
 
 	"gitlike/api"
@@ -19,6 +20,8 @@ type act struct {
 	lay  *api.Disk
 	do   func(r *repo.Repo) error
 	want api.Errno // what it answers, if nothing fails
+	// parts is the same act, done to a part: what may be, too, when it is cut short; each has more of it than the one ahead.
+	parts []func(r *repo.Repo) error
 }
 
 // world is a disk with a repository of all sorts: main is in use, side stands beside it, ahead is in front of it, a branch was dropped whose commit HEAD's log has, and something is left over.
@@ -44,7 +47,10 @@ func world(t *testing.T) *api.Disk {
 	return d.Copy()
 }
 
-// acts is calls of all kinds.
+// allActs is calls of all kinds, of the exchange too.
+func allActs(t *testing.T) []act { return append(acts(t), exchangeActs(t)...) }
+
+// acts is calls of all kinds, but for the exchange.
 func acts(t *testing.T) []act {
 	w := world(t)
 	fresh, _ := create(t)
@@ -52,40 +58,45 @@ func acts(t *testing.T) []act {
 	done(t, "Collect", open(t, packed).Collect())
 	files := texts("f", "new", "d/e", "new too")
 	return []act{
-		{"Commit", w, func(r *repo.Repo) error { _, err := r.Commit(files, ann, "m"); return err }, api.OK},
-		{"the first Commit", fresh, func(r *repo.Repo) error { _, err := r.Commit(files, ann, "m"); return err }, api.OK},
-		{"Commit behind a pack", packed, func(r *repo.Repo) error { _, err := r.Commit(files, ann, "m"); return err }, api.OK},
-		{"Commit of nothing new", w, func(r *repo.Repo) error { _, err := r.Commit(texts("f", "0\n"+ten), ann, "m"); return err }, api.ErrNothing},
-		{"Branch", w, func(r *repo.Repo) error { return r.Branch("new", "v") }, api.OK},
-		{"Branch below another one", w, func(r *repo.Repo) error { return r.Branch("side/x", "v") }, api.ErrClash},
-		{"Switch", w, func(r *repo.Repo) error { return r.Switch("side") }, api.OK},
-		{"Drop", w, func(r *repo.Repo) error { return r.Drop("side") }, api.OK},
-		{"Tag", w, func(r *repo.Repo) error { _, err := r.Tag("new", "side", bob, "m"); return err }, api.OK},
-		{"Merge", w, func(r *repo.Repo) error { _, err := r.Merge("side", bob, "m"); return err }, api.OK},
-		{"Merge of packed ones", packed, func(r *repo.Repo) error { _, err := r.Merge("side", bob, "m"); return err }, api.OK},
-		{"Merge forward", w, func(r *repo.Repo) error { _, err := r.Merge("ahead", bob, "m"); return err }, api.OK},
-		{"Merge of what is merged", w, func(r *repo.Repo) error { _, err := r.Merge("v", bob, "m"); return err }, api.ErrNothing},
-		{"Collect", w, func(r *repo.Repo) error { return r.Collect() }, api.OK},
-		{"Collect again", packed, func(r *repo.Repo) error { return r.Collect() }, api.OK},
-		{"Collect of nothing", fresh, func(r *repo.Repo) error { return r.Collect() }, api.OK},
-		{"Files", w, func(r *repo.Repo) error { l, err := r.Files("side"); return zero(l == nil, err) }, api.OK},
-		{"Log", packed, func(r *repo.Repo) error { l, err := r.Log("side"); return zero(l == nil, err) }, api.OK},
-		{"Objects", w, func(r *repo.Repo) error { l, err := r.Objects(); return zero(l == nil, err) }, api.OK},
-		{"Check", w, func(r *repo.Repo) error { return r.Check() }, api.OK},
+		{"Commit", w, func(r *repo.Repo) error { _, err := r.Commit(files, ann, "m"); return err }, api.OK, nil},
+		{"the first Commit", fresh, func(r *repo.Repo) error { _, err := r.Commit(files, ann, "m"); return err }, api.OK, nil},
+		{"Commit behind a pack", packed, func(r *repo.Repo) error { _, err := r.Commit(files, ann, "m"); return err }, api.OK, nil},
+		{"Commit of nothing new", w, func(r *repo.Repo) error { _, err := r.Commit(texts("f", "0\n"+ten), ann, "m"); return err }, api.ErrNothing, nil},
+		{"Branch", w, func(r *repo.Repo) error { return r.Branch("new", "v") }, api.OK, nil},
+		{"Branch below another one", w, func(r *repo.Repo) error { return r.Branch("side/x", "v") }, api.ErrClash, nil},
+		{"Switch", w, func(r *repo.Repo) error { return r.Switch("side") }, api.OK, nil},
+		{"Drop", w, func(r *repo.Repo) error { return r.Drop("side") }, api.OK, nil},
+		{"Tag", w, func(r *repo.Repo) error { _, err := r.Tag("new", "side", bob, "m"); return err }, api.OK, nil},
+		{"Merge", w, func(r *repo.Repo) error { _, err := r.Merge("side", bob, "m"); return err }, api.OK, nil},
+		{"Merge of packed ones", packed, func(r *repo.Repo) error { _, err := r.Merge("side", bob, "m"); return err }, api.OK, nil},
+		{"Merge forward", w, func(r *repo.Repo) error { _, err := r.Merge("ahead", bob, "m"); return err }, api.OK, nil},
+		{"Merge of what is merged", w, func(r *repo.Repo) error { _, err := r.Merge("v", bob, "m"); return err }, api.ErrNothing, nil},
+		{"Collect", w, func(r *repo.Repo) error { return r.Collect() }, api.OK, nil},
+		{"Collect again", packed, func(r *repo.Repo) error { return r.Collect() }, api.OK, nil},
+		{"Collect of nothing", fresh, func(r *repo.Repo) error { return r.Collect() }, api.OK, nil},
+		{"Files", w, func(r *repo.Repo) error { l, err := r.Files("side"); return zero(l == nil, err) }, api.OK, nil},
+		{"Log", packed, func(r *repo.Repo) error { l, err := r.Log("side"); return zero(l == nil, err) }, api.OK, nil},
+		{"Objects", w, func(r *repo.Repo) error { l, err := r.Objects(); return zero(l == nil, err) }, api.OK, nil},
+		{"Check", w, func(r *repo.Repo) error { return r.Check() }, api.OK, nil},
 	}
 }
 
-// states is what refs and logs are before an act, and behind it; and the objects that are there in the end.
-func (a act) states(t *testing.T) (before, behind string, objects []api.ID) {
+// states is what refs and logs are before an act, behind each of its parts, and behind it.
+func (a act) states(t *testing.T) (l []string) {
 	t.Helper()
-	d := a.lay.Copy()
-	r := open(t, d)
-	before = refsTold(t, r)
-	is(t, a.name, a.do(r), a.want)
-	behind = refsTold(t, r)
-	tellsTheSame(t, a.name, r, d)
-	return before, behind, objectsTold(t, r)
+	l = append(l, refsTold(t, open(t, a.lay.Copy())))
+	for _, do := range append(slices.Clone(a.parts), a.do) {
+		d := a.lay.Copy()
+		r := open(t, d)
+		is(t, a.name, do(r), a.want)
+		l = append(l, refsTold(t, r))
+		tellsTheSame(t, a.name, r, d)
+	}
+	return l
 }
+
+// last is what is behind all.
+func last(states []string) string { return states[len(states)-1] }
 
 // allThere wants all to be there that refs and logs reach.
 func allThere(t *testing.T, what string, r *repo.Repo) {
@@ -134,41 +145,42 @@ func stillFails(d *api.Disk, after int) bool {
 	return false
 }
 
-// is wants refs and logs to be as before an act, or as behind it (if it ended: just so), and all to be there that they reach.
-func (a act) is(t *testing.T, what string, r *repo.Repo, before, behind string, ended bool) (was bool) {
+// is wants refs and logs to be in one of the states (if the act ended: in the last one), and all to be there that they reach. It tells which one it is.
+func (a act) is(t *testing.T, what string, r *repo.Repo, states []string, ended bool) int {
 	t.Helper()
 	now := refsTold(t, r)
-	if now != behind && (ended || now != before) {
-		t.Fatalf("%s: %s: it tells\n%s, neither\n%s, nor\n%s", a.name, what, now, before, behind)
+	i := slices.Index(states, now)
+	if i < 0 || ended && now != last(states) {
+		t.Fatalf("%s: %s: it tells\n%s, none of\n%s", a.name, what, now, strings.Join(states, "\n"))
 	}
 	allThere(t, a.name+": "+what, r)
-	return now == before
+	return i
 }
 
 // again does an act once more, when nothing fails, if it was not done, and then a crash comes that takes all that may be taken.
-func (a act) again(t *testing.T, r *repo.Repo, d *api.Disk, before, behind string) {
+func (a act) again(t *testing.T, r *repo.Repo, d *api.Disk, states []string) {
 	t.Helper()
-	if refsTold(t, r) == before {
+	if now := refsTold(t, r); now == states[0] || now != last(states) {
 		is(t, a.name+" again", a.do(r), a.want)
 	}
-	a.is(t, "again", r, behind, behind, true)
+	a.is(t, "again", r, states, true)
 	d.Crash(0, 0)
-	a.is(t, "again, and a crash", open(t, d), behind, behind, true)
+	a.is(t, "again, and a crash", open(t, d), states, true)
 }
 
 // withoutCrash lets each operation fail, alone or with all behind it, and no crash comes.
 func (a act) withoutCrash(t *testing.T) {
-	before, behind, _ := a.states(t)
+	states := a.states(t)
 	for _, times := range []int{1, 2, forever} {
 		for after := 0; ; after++ {
 			d := a.lay.Copy()
 			r, ended := a.broken(t, d, after, times)
-			a.is(t, "the repository itself", r, before, behind, ended)
+			a.is(t, "the repository itself", r, states, ended)
 			tellsTheSame(t, a.name, r, d)
 			if after%2 == 0 {
 				r = open(t, d)
 			}
-			a.again(t, r, d, before, behind)
+			a.again(t, r, d, states)
 			if ended {
 				break
 			}
@@ -178,16 +190,16 @@ func (a act) withoutCrash(t *testing.T) {
 
 // twice lets an operation fail, and then one of the next call, which is the same one again.
 func (a act) twice(t *testing.T) {
-	before, behind, _ := a.states(t)
+	states := a.states(t)
 	for after := 0; ; after += 3 {
 		d := a.lay.Copy()
 		r, ended := a.broken(t, d, after, 1+after%2)
 		if ended {
 			break
 		}
-		was := true
+		was := 0
 		if after%2 == 0 { // else the next call is the first thing that it is asked
-			was = a.is(t, "the repository itself", r, before, behind, false)
+			was = a.is(t, "the repository itself", r, states, false)
 		}
 		for _, more := range []int{0, 1, 2, 5, 20, 60} {
 			d.Fail(more, 1)
@@ -199,9 +211,11 @@ func (a act) twice(t *testing.T) {
 			if api.Tell(err) != api.ErrDisk {
 				break
 			}
-			if now := a.is(t, "the next time", r, before, behind, false); now && !was {
+			now := a.is(t, "the next time", r, states, false)
+			if now < was {
 				t.Fatalf("%s: what was done is not done any more", a.name)
 			}
+			was = now
 			tellsTheSame(t, a.name, r, d)
 		}
 	}
@@ -227,7 +241,7 @@ func (a act) toldIsSafe(t *testing.T) {
 
 // withCrash lets all operations fail from some moment on, and then a crash comes, that leaves more or less.
 func (a act) withCrash(t *testing.T) {
-	before, behind, _ := a.states(t)
+	states := a.states(t)
 	for i, dir := range []uint{0, 1, 2, 3, 5, 8, 13} {
 		for after := 0; ; after++ {
 			d := a.lay.Copy()
@@ -235,12 +249,12 @@ func (a act) withCrash(t *testing.T) {
 			d.Crash(dir, []uint{0, 77, 1 << 20}[i%3])
 			r := open(t, d)
 			was := refsTold(t, r)
-			a.is(t, "behind a crash", r, before, behind, ended)
+			a.is(t, "behind a crash", r, states, ended)
 			d.Crash(0, 0)
 			r = open(t, d)
-			a.is(t, "the next time", r, was, was, ended)
+			a.is(t, "the next time", r, []string{was}, ended)
 			if (after+i)%3 == 0 {
-				a.again(t, r, d, before, behind)
+				a.again(t, r, d, states)
 			}
 			if ended {
 				break
@@ -249,9 +263,9 @@ func (a act) withCrash(t *testing.T) {
 	}
 }
 
-// TestBroken: 13.9, every operation of the disk fails, or is the last one ahead of a crash, in each call.
+// TestBroken: 13.9 and 14.7, every operation of the disk fails, or is the last one ahead of a crash, in each call.
 func TestBroken(t *testing.T) {
-	for _, a := range acts(t) {
+	for _, a := range allActs(t) {
 		t.Run(a.name, func(t *testing.T) {
 			t.Parallel()
 			a.withoutCrash(t)
@@ -283,12 +297,12 @@ func narrow(t *testing.T, d *api.Disk, left int) *api.Disk {
 	return copied
 }
 
-// TestNoRoom: 13.9, want of room, in each call.
+// TestNoRoom: 13.9 and 14.7, want of room, in each call.
 func TestNoRoom(t *testing.T) {
-	for _, a := range acts(t) {
+	for _, a := range allActs(t) {
 		t.Run(a.name, func(t *testing.T) {
 			t.Parallel()
-			before, behind, _ := a.states(t)
+			states := a.states(t)
 			for left := 0; ; left += 11 {
 				d := narrow(t, a.lay, left)
 				r := open(t, d)
@@ -297,10 +311,10 @@ func TestNoRoom(t *testing.T) {
 				if !ended && api.Tell(err) != api.ErrRoom {
 					t.Fatalf("%s with %d bytes left: %v", a.name, left, err)
 				}
-				a.is(t, "the repository itself", r, before, behind, ended)
+				a.is(t, "the repository itself", r, states, ended)
 				tellsTheSame(t, a.name, r, d)
 				d.Crash(uint(left), uint(left))
-				a.is(t, "behind a crash", open(t, d), before, behind, ended)
+				a.is(t, "behind a crash", open(t, d), states, ended)
 				if ended {
 					break
 				}
@@ -309,16 +323,16 @@ func TestNoRoom(t *testing.T) {
 	}
 }
 
-// TestCrashBehind: 13.9, what was answered without an error is safe: crashes behind calls, of one repository and of new ones.
+// TestCrashBehind: 13.9 and 14.7, what was answered without an error is safe: crashes behind calls, of one repository and of new ones.
 func TestCrashBehind(t *testing.T) {
-	for _, a := range acts(t) {
+	for _, a := range allActs(t) {
 		for dir := range uint(4) {
-			before, behind, _ := a.states(t)
+			states := a.states(t)
 			d := a.lay.Copy()
 			r := open(t, d)
 			is(t, a.name, a.do(r), a.want)
 			d.Crash(dir, dir)
-			a.is(t, "behind it", open(t, d), before, behind, true)
+			a.is(t, "behind it", open(t, d), states, true)
 		}
 	}
 }

@@ -27,6 +27,7 @@ type game struct {
 	made   []api.ID          // ids that were met
 	kept   map[api.ID]string // what Files and Log told of a commit when it was made
 	counts map[string]int
+	calm   bool // nothing is laid that no call of a repository makes
 }
 
 // branchNames and tagNames are those that are tried; some are none, some clash.
@@ -236,7 +237,7 @@ func (g *game) step() {
 			g.same("Collect", "", "", g.repo.Collect(), g.model.Collect())
 		}
 	case 15:
-		if g.lot.Intn(4) == 0 {
+		if g.lot.Intn(4) == 0 && !g.calm {
 			g.lay()
 		}
 		g.repo = open(g.t, g.disk)

@@ -23,28 +23,24 @@ func (r *Repo) Objects() ([]api.Object, error) {
 
 // Check tells whether all that the refs reach is there.
 func (r *Repo) Check() error {
-	return act(r, func(c *call) { need(c.closure(c.told()...)) })
+	return act(r, func(c *call) { take(c.closure(c.told()...)) })
 }
 
 // Collect drops what is reached from nowhere.
 func (r *Repo) Collect() error {
 	return act(r, func(c *call) {
-		need(c.closure(c.told()...))
+		take(c.closure(c.told()...))
 		for _, id := range c.logged() {
-			_ = c.closure(id) // of what is not whole nothing is kept
+			// Of what is not whole nothing is kept; but what is spoilt was whole, perhaps, and is not dropped for that.
+			err := c.complete(id)
+			refuse(errors.Is(err, api.ErrCorrupt), err)
 		}
 		need(c.store().Repack(idorder.Sorted(c.whole)))
 	})
 }
 
 // told is the ids that refs stand for, by the names of these.
-func (c *call) told() []api.ID {
-	var ids []api.ID
-	for _, r := range c.refs().List("") {
-		ids = append(ids, r.ID)
-	}
-	return ids
-}
+func (c *call) told() []api.ID { return idsOf(c.refs().List("")) }
 
 // logged is the ids in all logs, those of refs too that lead to nothing now; each once, since many are there often.
 func (c *call) logged() []api.ID {
@@ -57,9 +53,24 @@ func (c *call) logged() []api.ID {
 	return idorder.Sorted(ids)
 }
 
-// closure sees whether all is there that ids reach: the error of 9.4, if it is not. Objects that the call has found to be whole are not gone through again.
-func (c *call) closure(from ...api.ID) error {
+// closure is all that ids reach, or the error of 9.4.
+func (c *call) closure(from ...api.ID) (map[api.ID]struct{}, error) {
 	met, err := idwalk.Through(c.links, from...)
+	if err != nil {
+		return nil, err
+	}
+	maps.Copy(c.whole, met)
+	return met, nil
+}
+
+// complete is the error of 9.4, if not all is there that an id reaches. Objects that the call has found to be whole are not gone through again.
+func (c *call) complete(id api.ID) error {
+	met, err := idwalk.Through(func(id api.ID) ([]api.ID, error) {
+		if _, known := c.whole[id]; known {
+			return nil, nil
+		}
+		return c.links(id)
+	}, id)
 	if err != nil {
 		return err
 	}
@@ -67,16 +78,22 @@ func (c *call) closure(from ...api.ID) error {
 	return nil
 }
 
-// links is what an object names, as far as it is not known to be whole.
+// links is what an object names. Each object is read once, since a call may come by it many times.
 func (c *call) links(id api.ID) ([]api.ID, error) {
-	if _, known := c.whole[id]; known {
-		return nil, nil
+	if l, known := c.linked[id]; known {
+		return l, nil
 	}
-	o, there := c.find(id)
-	if !there {
-		return nil, missing(id)
+	o, err := c.store().Get(id)
+	refuse(errors.Is(err, api.ErrDisk), err)
+	if err != nil {
+		return nil, err
 	}
-	return object.Links(o)
+	l, err := object.Links(o)
+	if err != nil {
+		return nil, err
+	}
+	c.linked[id] = l
+	return l, nil
 }
 
 // find reads an object, if it is there.

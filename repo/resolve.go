@@ -45,7 +45,7 @@ func (c *call) commitOf(id api.ID) commit {
 		o = take(c.store().Get(id))
 	}
 	found := commit{id, readCommit(o)}
-	need(c.closure(id))
+	take(c.closure(id))
 	return found
 }
 
